@@ -42,13 +42,18 @@ func octetsOf(text string, size int) iter.Seq2[int, octet] {
 	}
 }
 
-// SumOf is the sum of a text, in which each byte, and where it stands, counts.
-func SumOf(text string) int {
+// weighed is of all bytes of a text, each times sumUnit and its place, from 1 on, the sum.
+func weighed(text string) int {
 	sum := 0
-	for at, o := range octetsOf(text, min(len(text), SecLen*ColMax)) {
+	for at, o := range octetsOf(text, len(text)) {
 		sum += int(o) * (sumUnit + at + 1)
 	}
 	return sum
+}
+
+// SumOf is the sum of a text, in which each byte, and where it stands, counts.
+func SumOf(text string) int {
+	return weighed(text[:min(len(text), SecLen*ColMax)])
 }
 
 // joined is what is done with each two bytes of two texts, the shorter one having noughts behind it.
