@@ -799,20 +799,26 @@ func TestP19WhatIsOkOnFewDisksIsOkOnMore(t *testing.T) {
 	}
 }
 
-// span is memory, from its first byte up to behind its last one.
-type span struct{ from, till uintptr }
+// span is memory, from its first byte up to behind its last one; as long as it is held it cannot be given away anew.
+type span struct {
+	from, till uintptr
+	held       unsafe.Pointer
+}
+
+// spanOf is so many bytes from here on.
+func spanOf(from unsafe.Pointer, size uintptr) span {
+	return span{uintptr(from), uintptr(from) + size, from}
+}
 
 // listSpan is the memory of a list, with its spare room.
 func listSpan[T any](list []T) span {
 	var one T
-	from := uintptr(unsafe.Pointer(unsafe.SliceData(list)))
-	return span{from, from + uintptr(cap(list))*unsafe.Sizeof(one)}
+	return spanOf(unsafe.Pointer(unsafe.SliceData(list)), uintptr(cap(list))*unsafe.Sizeof(one))
 }
 
 // textSpan is the memory of a text.
 func textSpan(text string) span {
-	from := uintptr(unsafe.Pointer(unsafe.StringData(text)))
-	return span{from, from + uintptr(len(text))}
+	return spanOf(unsafe.Pointer(unsafe.StringData(text)), uintptr(len(text)))
 }
 
 // rootSpans is the memory of all lists of a root, and of its names.
