@@ -56,13 +56,13 @@ func wordsSaid(line string) []string {
 	var words []string
 	word := ""
 	for i := range len(line) {
-		if line[i] != ' ' {
+		if line[i] == ' ' {
+			words, word = append(words, word), ""
+		} else {
 			word += line[i : i+1]
 		}
-		if ends := i+1 == len(line) || line[i+1] == ' '; ends && word != "" {
-			words, word = append(words, word), ""
-		}
 	}
+	words = append(words, word)
 	return append(words, "", "", "", "")
 }
 
@@ -213,6 +213,15 @@ func anySaid(r *rand.Rand, disks int) string {
 	return []string{"commit", "scrub", "settle", "see"}[r.Intn(4)]
 }
 
+// withBlank is a line with a blank more, beside one that is there, or, behind the last one, anywhere.
+func withBlank(r *rand.Rand, line string) string {
+	at := r.Intn(len(line))
+	if next := strings.IndexByte(line[at:], ' '); next >= 0 {
+		at += next
+	}
+	return line[:at] + " " + line[at:]
+}
+
 // anyLine is any line; most mean something.
 func anyLine(r *rand.Rand, disks int) string {
 	line := anySaid(r, disks)
@@ -220,9 +229,9 @@ func anyLine(r *rand.Rand, disks int) string {
 	case 0:
 		return anyWordText(r, r.Intn(9))
 	case 1:
-		return strings.ReplaceAll(line, " ", "   ")
+		return withBlank(r, line)
 	case 2:
-		return "  " + line + " "
+		return strings.Repeat(" ", r.Intn(3)) + line + " "
 	case 3:
 		return line + " more " + anyWordText(r, 3)
 	case 4:
@@ -302,7 +311,8 @@ func TestP87OfTextsAsLongAsTheyMayBe(t *testing.T) {
 			{strings.Repeat("x", 799) + "\n", "what\nend\n"},
 			{strings.Repeat("see\n", 200), "end\n"},
 			{strings.Repeat("é", 400), "end\n"},
-			{strings.Repeat(" ", 793) + "make a\n", volume("a") + "\nend\n"},
+			{strings.Repeat(" ", 793) + "make a\n", "what\nend\n"},
+			{"make" + strings.Repeat(" ", 794) + "a\n", "end\n"},
 			{"make a" + strings.Repeat(" ", 793) + "\n", volume("a") + "\nend\n"},
 			{"make a\n" + strings.Repeat(" ", 793), volume("a") + "\nend\n"},
 			{"make a\nwrite a 0 " + strings.Repeat("x", 782) + "\n", volume("a") + "\nend\n"},
@@ -353,7 +363,8 @@ func TestP89SeeTellsOnceMoreWhatIsToldInTheEnd(t *testing.T) {
 		}
 		count[fmt.Sprint("open ", w.Pool.Open, ", empty ", now == "")]++
 		isAnswered(t, disks, text+"see\n", told+more+now+"end\n")
-		isAnswered(t, disks, text+" see  more see\nsee see\n", told+more+more+now+"end\n")
+		isAnswered(t, disks, text+"see  more see\nsee see\n", told+more+more+now+"end\n")
+		isAnswered(t, disks, text+" see\n", told+"what\n"+now+"end\n")
 		other := noWords()[r.Intn(len(noWords()))]
 		isAnswered(t, disks, text+other+"\n", told+"what\n"+now+"end\n")
 	})
@@ -415,26 +426,59 @@ func TestEachWordOfAnEvent(t *testing.T) {
 	}
 }
 
-func TestBlanksInLines(t *testing.T) {
-	want := []string{volume("a", "", "to"), "end"}
-	for _, lines := range [][]string{
-		{"make a", "write a 1 to"}, {" make a", "    write a 1 to"}, {"make a ", "write a 1 to     "}, {"make  a", "write   a  1    to"}, {"  make    a  ", " write  a  1  to  more "},
+func TestBlanksBehindWhatIsNeeded(t *testing.T) {
+	start, want := []string{"make a", "write a 1 to"}, volume("a", "", "to")
+	areAnswered(t, []string{"make a ", "write a 1 to "}, want, "end")
+	areAnswered(t, []string{"make a     ", "write a 1 to     "}, want, "end")
+	areAnswered(t, []string{"make a  b", "write a 1 to  go "}, want, "end")
+	areAnswered(t, append(slices.Clone(start), "copy a b  ", "drop a "), volume("b", "", "to"), "end")
+	areAnswered(t, append(slices.Clone(start), "commit ", "crash  ", "see ", "open ", "lose 1  ", "see  see", "fresh 1 ", "scrub ", "settle  "), "shut", want, want, "end")
+	areAnswered(t, append(slices.Clone(start), "what ", "see   "), "what", want, want, "end")
+}
+
+// At each blank a line is cut, so between two of them, and ahead of one at its beginning, there is a word, which is empty.
+func TestBlanksSideBySide(t *testing.T) {
+	start := []string{"make a", "write a 0 x", "write a 1 to", "commit"}
+	seen := volume("a", "x", "to")
+	for _, c := range []struct {
+		line string
+		want []string
+	}{
+		{"make  b", []string{seen}}, {"make   b", []string{seen}}, {"make  b c", []string{seen}},
+		{"drop  a", []string{seen}}, {"drop   a", []string{seen}}, {"drop  a a", []string{seen}},
+		{"copy  a b", []string{seen}}, {"copy a  b", []string{seen}}, {"copy  a  b", []string{seen}}, {"copy   a b", []string{seen}},
+		{"write  a 0 go", []string{seen}}, {"write a  0 go", []string{seen}}, {"write  0 go", []string{seen}}, {"write a  0", []string{seen}}, {"write  a   ", []string{seen}},
+		{"write a 0  go", []string{volume("a", "", "to")}}, {"write a 1  go", []string{volume("a", "x")}}, {"write a 1   go", []string{volume("a", "x")}}, {"write a 1  ", []string{volume("a", "x")}}, {"write a 1 ", []string{volume("a", "x")}}, {"write a 2  go", []string{seen}},
+		{"commit  more", []string{seen}}, {"crash  7", []string{seen}}, {"open  more", []string{seen}}, {"scrub  more", []string{seen}}, {"settle  more", []string{seen}},
+		{"make ", []string{seen}}, {"make  ", []string{seen}}, {"drop ", []string{seen}}, {"copy a ", []string{seen}}, {"lose ", []string{seen}}, {"lose  0", []string{seen}}, {"fresh  ", []string{seen}}, {"fresh  0", []string{seen}},
 	} {
-		areAnswered(t, lines, want...)
+		areAnswered(t, append(slices.Clone(start), c.line), append(slices.Clone(c.want), "end")...)
 	}
-	// One word less, however many blanks stand there.
-	areAnswered(t, []string{"make a", "write a 1 to", "write a 1  "}, volume("a"), "end")
-	areAnswered(t, []string{"make a", "write a 1 to", "write  a   "}, want...)
-	areAnswered(t, []string{"make ", "   make   ", " drop", "lose  "}, "end")
-	// Without a word there is no first one of an event.
-	areAnswered(t, []string{""}, "what", "end")
-	areAnswered(t, []string{" "}, "what", "end")
-	areAnswered(t, []string{"     ", "", "make a", "", "  "}, "what", "what", "what", "what", volume("a"), "end")
-	areAnswered(t, []string{" see ", "see  see"}, "end")
-	areAnswered(t, []string{"crash", "  see ", "see  see"}, "shut", "shut", "end")
-	// A word that is cut is another one.
+	// The same in a row: what is not made, or not made as another one, is not written to.
+	areAnswered(t, []string{"make  a", "write a 1 to", "make b", "copy  b a", "write a 1 to"}, volume("b"), "end")
+	areAnswered(t, []string{"make a", "write a 1 to", "write a 1  go", "write a 2 go  to"}, volume("a", "", "", "go"), "end")
+}
+
+func TestBlanksAheadOfALine(t *testing.T) {
+	for _, word := range append(eventWords(), "see", "what", "") {
+		for _, blanks := range []string{" ", "  ", "     "} {
+			for _, more := range []string{"", " ", " a", " a b", " a 0 x", " 0"} {
+				line := blanks + word + more
+				areAnswered(t, []string{line}, "what", "end")
+				areAnswered(t, []string{"make a", "write a 0 y", line, "see"}, "what", volume("a", "y"), volume("a", "y"), "end")
+				areAnswered(t, []string{"make a", "crash", line, "see"}, "what", "shut", "end")
+			}
+		}
+	}
+	// The first word of a line without any is empty, too.
+	areAnswered(t, []string{"", "make a", "", " ", "  ", "make b"}, "what", "what", "what", "what", volume("a"), volume("b"), "end")
+}
+
+func TestWordsThatAreCut(t *testing.T) {
 	areAnswered(t, []string{"ma ke a", "m ake a", "s ee"}, "what", "what", "what", "end")
 	areAnswered(t, []string{"makea", "seesee", "lose0"}, "what", "what", "what", "end")
+	areAnswered(t, []string{"see  see", "see"}, "end")
+	areAnswered(t, []string{"crash", "  see ", "see  see"}, "what", "shut", "end")
 }
 
 func TestNewlinesOfLines(t *testing.T) {

@@ -178,16 +178,30 @@ func openedSaid(w impl.World) impl.World {
 	return out
 }
 
+// isAloneSaid says whether there is such a disk, and no other one of an ok pool is harmed, written out.
+func isAloneSaid(p impl.Pool, disk int) bool {
+	for _, harmed := range harmSaid(p) {
+		if harmed != disk {
+			return false
+		}
+	}
+	return disk >= 0 && disk < len(p.Disks)
+}
+
+// lostSaid is what comes of EvLose as the document says it, written out.
+func lostSaid(w impl.World, e impl.Event) impl.World {
+	out := worldCopied(w)
+	if isAloneSaid(w.Pool, e.A) {
+		out.Pool.Disks[e.A] = impl.DiskNew(1)
+	}
+	return out
+}
+
 // hitSaid is what comes of EvSpoil as the document says it, written out.
 func hitSaid(w impl.World, e impl.Event) impl.World {
 	out := worldCopied(w)
-	if e.A < 0 || e.A >= len(w.Pool.Disks) {
+	if !isAloneSaid(w.Pool, e.A) {
 		return out
-	}
-	for _, disk := range harmSaid(w.Pool) {
-		if disk != e.A {
-			return out
-		}
 	}
 	if d := spoilSaid(w.Pool.Disks[e.A], e.B, e.C, e.D); len(d.Slots) > 0 {
 		out.Pool.Disks[e.A] = d
@@ -219,8 +233,10 @@ func worldSaid(w impl.World, e impl.Event) impl.World {
 		out.Pool = fallSaid(w.Pool, e.Keep)
 	case 8:
 		return openedSaid(w)
-	case 9, 10, 11, 12:
-		one := whole{kind: []string{"lose", "fresh", "scrub", "settle"}[e.Kind-9], at: e.A}
+	case 9:
+		return lostSaid(w, e)
+	case 10, 11, 12:
+		one := whole{kind: []string{"fresh", "scrub", "settle"}[e.Kind-10], at: e.A}
 		if p, code := one.said(w.Pool); code == 0 {
 			out.Pool = p
 		}
@@ -1171,6 +1187,88 @@ func TestHarmInAWorld(t *testing.T) {
 		}
 		isWorld(t, "spoilt, and lost", impl.WorldDo(hurt, loses(kept.Disk).event()), ofPool(w, replaced(p, kept.Disk, impl.DiskNew(impl.DiskGone))))
 	}
+}
+
+// barelyOk are pools, made by hand, of which no disk is harmed, and which are not ok without any of some disks.
+func barelyOk(t *testing.T, disks int) map[string]impl.Pool {
+	t.Helper()
+	p := arrived(changedPool(t, disks))
+	kept, seen := p.Root.Vols[0].Blocks[1], blockAt(t, p, "a", 1)
+	newer := rootOf(7, p.Root.Vols...)
+	alone := onlyOn(p, 1, newer)
+	alone.Open, alone.Root, alone.Work = true, newer, copied(newer)
+	return map[string]impl.Pool{
+		"one column of what is kept is not there":        withoutColumn(p, kept.Places[0]),
+		"one column of what is seen is not there":        withoutColumn(p, seen.Places[1]),
+		"the parity of what is kept is not there":        withoutColumn(p, kept.Places[len(kept.Places)-1]),
+		"another column of what is kept":                 overrun(p, kept, 1, false),
+		"another column of what is seen":                 overrun(p, seen, 1, false),
+		"another column of what is seen waits":           overrun(p, seen, 1, true),
+		"one disk alone has the newest root":             alone,
+		"one disk alone has the newest root, with holes": withoutColumn(alone, kept.Places[0]),
+	}
+}
+
+// isLost asks that just a disk is gone behind EvLose, and that there is nothing of the world from then on if the pool is not ok.
+func isLost(t *testing.T, why string, p impl.Pool, disk int) {
+	t.Helper()
+	gone := replaced(p, disk, impl.DiskNew(impl.DiskGone))
+	for _, wrong := range []bool{false, true} {
+		w := apartModels(p)
+		w.Wrong = wrong
+		changesAt(t, why, w, loses(disk), func(want *impl.World) { want.Pool = gone })
+		if !okPoolSaid(gone) {
+			isNoWorldOk(t, why, impl.WorldDo(w, loses(disk).event()))
+		}
+	}
+}
+
+// It hangs on harm alone whether a disk is lost, not on whether the pool is ok then.
+func TestADiskIsLostThoughThePoolIsNotOkThen(t *testing.T) {
+	count := kinds{}
+	for _, disks := range pools() {
+		for why, p := range barelyOk(t, disks) {
+			isHarmed(t, why, p)
+			for disk := range disks {
+				isLost(t, why, p, disk)
+				_, ok := impl.PoolLose(p, disk)
+				count[fmt.Sprint(why, ", ok ", ok)]++
+				isLost(t, why+", shut", shut(p), disk)
+			}
+			changesNothing(t, why, apartModels(p), noEvents(disks)...)
+		}
+	}
+	for why := range barelyOk(t, 3) {
+		count.atLeast(t, 2, why+", ok false")
+	}
+}
+
+// With another one harmed it is not lost, whether the pool would be ok then or not.
+func TestADiskIsNotLostInABarelyOkPoolWithAnotherOneHarmed(t *testing.T) {
+	count := kinds{}
+	for _, disks := range pools() {
+		for why, p := range barelyOk(t, disks) {
+			for _, place := range impl.RootPlaces(disks, p.Root) {
+				if p.Disks[place.Disk].Slots[place.Slot] == "" {
+					continue
+				}
+				hurt := spoiltAt(t, p, place)
+				if !okPoolSaid(hurt) {
+					continue
+				}
+				isHarmed(t, why, hurt, place.Disk)
+				for disk := range disks {
+					if disk == place.Disk {
+						isLost(t, why, hurt, disk)
+						continue
+					}
+					count[fmt.Sprint("ok then ", okPoolSaid(replaced(hurt, disk, impl.DiskNew(impl.DiskGone))))]++
+					changesNothing(t, why, apartModels(hurt), loses(disk))
+				}
+			}
+		}
+	}
+	count.atLeast(t, 5, "ok then true", "ok then false")
 }
 
 // A slot that nobody uses harms only a pool that is shut; one that a write waits for does not either, if it is not kept.
